@@ -1,0 +1,1 @@
+"""Tongues: a workbench for languages that are given as data."""
