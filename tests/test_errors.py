@@ -2,13 +2,16 @@
 
 import unittest
 
-from tongues.errors import BadChange, BadLexer, BadPattern, TongueError, TooManyStates
+from tongues.errors import BadChange, BadLexer, BadPattern, TongueError, TooDeep, TooLong, TooManyStates
+from tongues.formulas import BadFormula, BadName, BadValue
+from tongues.languages import BadLanguage, BadRule
 
 
 class ErrorsTest(unittest.TestCase):
     def test_bases(self):
         self.assertEqual(TongueError.__bases__, (ValueError,))
-        for error in (BadChange, BadPattern, BadLexer, TooManyStates):
+        for error in (BadChange, BadPattern, BadLexer, TooManyStates, TooLong, TooDeep, BadLanguage, BadRule,
+                      BadName, BadValue, BadFormula):
             self.assertEqual(error.__bases__, (TongueError,))
 
     def test_attributes(self):
@@ -17,6 +20,9 @@ class ErrorsTest(unittest.TestCase):
         self.assertIsNone(BadLexer(None, "modes").number)
         self.assertEqual(BadPattern(7).position, 7)
         self.assertEqual(TooManyStates("main").mode, "main")
+        self.assertEqual(BadLanguage("start").reason, "start")
+        self.assertEqual((BadRule(2, "base").number, BadRule(2, "base").reason), (2, "base"))
+        self.assertEqual((BadFormula((1,), "name").way, BadFormula((1,), "name").reason), ((1,), "name"))
 
 
 if __name__ == "__main__":

@@ -33,3 +33,11 @@ class TooManyStates(TongueError):
 
     def __init__(self, mode):
         self.mode = mode
+
+
+class TooLong(TongueError):
+    """A text has too many characters or too many tokens."""
+
+
+class TooDeep(TongueError):
+    """Too many rules are entered, or too many rows of a tree stand one within the other."""
