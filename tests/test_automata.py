@@ -42,7 +42,9 @@ class MatchesTest(unittest.TestCase):
                 ("a|bc", ["a", "bc"], ["b", "ac", "abc", ""]), ("a*", ["", "a", "aaaa"], ["b", "aab"]),
                 ("a+", ["a", "aaa"], ["", "ab"]), ("a?", ["", "a"], ["aa", "b"]), ("(ab)*", ["", "abab"], ["aba", "a"]),
                 ("(a|b)+c", ["ac", "bbac"], ["c", "ab", "acc"]), ("a*b?a+", ["a", "aba", "aaa", "ba"], ["b", "ab", ""]),
-                ("(a?b?)+", ["", "a", "ba", "abab"], ["c"]), ("(a*)*b", ["b", "aab"], ["", "aa"])):
+                ("ab?c", ["ac", "abc"], ["c", "bc", "ab", "a", "abbc"]), ("ab*c?", ["a", "abbc", "ac"], ["c", "b", "bc"]),
+                ("a?b?c", ["c", "abc", "bc"], ["", "a", "ab", "acb"]),
+                ("a(b|c?)b", ["ab", "abb", "acb"], ["b", "cb", "acbb"]), ("(a?b?)+", ["", "a", "ba", "abab"], ["c"]), ("(a*)*b", ["b", "aab"], ["", "aa"])):
             tree = read_pattern(pattern)
             for text in whole:
                 self.assertIs(matches(tree, text), True, (pattern, text))

@@ -85,7 +85,7 @@ class WrongPatternsTest(unittest.TestCase):
                 ("*", 0), ("+a", 0), ("?", 0), ("a**", 2), ("a+?", 2), ("(*a)", 1), ("a|*", 2), (")", 0), ("a)", 1),
                 ("(a))", 3), ("]", 0), ("a]", 1), ("a*)", 2),
                 # escapes
-                ("\\a", 1), ("\\ ", 1), ("a\\N", 2), ("[\\a]", 2), ("[a-\\b]", 4), ("\\\n", 1),
+                ("\\a", 1), ("\\x", 1), ("\\ ", 1), ("a\\N", 2), ("[\\a]", 2), ("[a-\\b]", 4), ("\\\n", 1),
                 # sets
                 ("[]", 1), ("[]a]", 1), ("[^]", 2), ("[^^]", 2), ("[a^]", 2), ("[-a]", 1), ("[a-]", 3), ("[a--]", 3),
                 ("[a-^]", 3), ("[a-c-e]", 4), ("[a-b-]", 4),
@@ -97,6 +97,21 @@ class WrongPatternsTest(unittest.TestCase):
             with self.assertRaises(BadPattern) as caught:
                 read_pattern(text)
             self.assertEqual(caught.exception.position, position, text)
+
+
+    def test_escapes_of_other_characters(self):
+        for character in ALPHABET:
+            if character not in "n|*+?()[].\\^-":
+                for text, position in (("a\\" + character, 2), ("[\\" + character + "]", 2)):
+                    with self.assertRaises(BadPattern) as caught:
+                        read_pattern(text)
+                    self.assertEqual(caught.exception.position, position)
+
+    def test_characters_outside_of_the_alphabet(self):
+        for text, position in (("a%", 1), ("[a%]", 2), ("[%]", 1), ("\t", 0), ("a\\%", 2)):
+            with self.assertRaises(BadPattern) as caught:
+                read_pattern(text)
+            self.assertEqual(caught.exception.position, position)
 
 
 class CanonicalTextTest(unittest.TestCase):

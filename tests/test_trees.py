@@ -6,6 +6,7 @@ import unittest
 from tongues.errors import TooDeep, TooLong
 from tongues.grammar import faults
 from tongues.languages import Language
+from tongues.parsing import Parser
 from tongues.trees import problems_of, tree_of
 from tests.derivations import Deriver, rows_of
 from tests.drawings import BROKEN, WHOLE
@@ -341,6 +342,20 @@ class LimitsTest(unittest.TestCase):
             tree_of(language, "1^" * 100)
         with self.assertRaises(TooDeep):
             tree_of(language, "1^" * 99 + "1")
+
+    def test_many_prefix_operators_ahead_of_nothing(self):
+        language = language_of([("operators", "e", "n", [("prefix", [("^", "p")])]),
+                                ("node", "n", [("token", "number", "digits")])], "e", tokens=[("number", "1")])
+        self.assertEqual(self.deepest(tree_of(language, "^" * 99)), 100)
+        with self.assertRaises(TooDeep):
+            tree_of(language, "^" * 100)
+        # not even a row of many more tokens makes calls that are nested too deep for Python
+        with self.assertRaises(TooDeep):
+            Parser(language, [(("word", "^"), at, at + 1, "main", at + 2) for at in range(2000)]).whole("e")
+
+    def test_operations_that_are_finished_do_not_count(self):
+        text = ("show " + "-" * 60 + "1;") * 3
+        self.assertEqual(problems_of(tree_of(LANGUAGE, text)), ())
 
     def deepest(self, tree):
         depths = []

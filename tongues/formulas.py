@@ -50,7 +50,6 @@ def check_tuple(formula, way):
         raise BadFormula(way, "length")
     if formula[0] == "cyclic":
         check_cell_name(formula[1], way + (1,))
-        return
     for place in range(1, len(formula)):
         check_part(formula[place], way + (place,))
 

@@ -68,7 +68,7 @@ def mode_lookahead(lexer, mode):
     """
     states = mode_states(lexer, mode)
     automaton = lexer.automaton(mode)
-    unmatched = {state: [] for state in states}
+    unmatched = {}
     for state in states:
         reached = {behind: True for _, behind in states[state]}
         unmatched[state] = [behind for behind in reached if not automaton.matching(behind)]

@@ -1,0 +1,89 @@
+"""What is said of the whole program ([0.3])."""
+
+import copy
+import unittest
+
+from tongues.automata import Automaton, matches
+from tongues.formulas import check_formula
+from tongues.grammar import faults
+from tongues.languages import Language
+from tongues.patterns import can_be_empty, read_pattern, write_pattern
+from tongues.tables import Tables
+from tongues.texts import (apply_change, carry_place, check_change, invert_change, join_changes,
+                           line_and_column)
+from tongues.tokens import Lexer, relex, tokens
+from tongues.trees import problems_of, tree_of
+from tongues.winners import lookahead, winners
+from tests.languages import CALCULUS, LETS
+
+
+def numbers_in(value):
+    """All numbers, True and False in a value."""
+    if isinstance(value, dict):
+        return [number for pair in value.items() for number in numbers_in(pair)]
+    if isinstance(value, (list, tuple)):
+        return [number for part in value for number in numbers_in(part)]
+    return [value] if isinstance(value, int) else []
+
+
+class WholeProgramTest(unittest.TestCase):
+    def test_a_whole_number_is_never_true_or_false(self):
+        language = Language(LETS)
+        change = ((0, 1, ""), (2, 2, "xy"))
+        machine = Automaton([read_pattern("a[bc]*")])
+        told = [invert_change("abc", change), join_changes("abc", change, change), carry_place(3, change, 1),
+                line_and_column("\n", 1), machine.states(9), machine.after(None, "a"),
+                machine.matching(machine.after(None, "a")), tokens(language.lexer, "let x = 1;$"),
+                relex(language.lexer, "let x", change), lookahead(language.lexer), tree_of(language, "show 1 2"),
+                problems_of(tree_of(language, "show")),
+                faults(Language({**LETS, "rules": LETS["rules"] + [("choice", "a", ["let", "let"])]}))]
+        for value in told:
+            numbers = numbers_in(value)
+            self.assertTrue(numbers)
+            self.assertEqual({type(number) for number in numbers}, {int}, value)
+
+    def test_arguments_are_not_changed(self):
+        sections = copy.deepcopy(CALCULUS)
+        trees = [read_pattern("ab|c*"), read_pattern("(a)+")]
+        modes, words = ["main"], ["let"]
+        rules = [["word", "[a-z]+", None, None, False]]
+        change = [[0, 1, "x"], [2, 2, "y"]]
+        given = [sections, trees, modes, words, rules, change]
+        before = copy.deepcopy(given)
+        language = Language(sections)
+        Tables(language).rows()
+        faults(language)
+        tree = tree_of(language, "1 + $")
+        problems_of(list(tree))
+        lexer = Lexer(modes, words, rules)
+        for function in (winners, lookahead):
+            function(lexer)
+        relex(lexer, "let x", change)
+        check_change("abc", change)
+        invert_change("abc", change)
+        join_changes("abc", change, change)
+        carry_place(3, change, 3)
+        self.assertEqual(apply_change("abc", change), "xbyc")
+        Automaton(trees).states(9)
+        for one in trees:
+            write_pattern(one)
+            can_be_empty(one)
+            matches(one, "ab")
+        check_formula(("plus", 1, "a"))
+        self.assertEqual(given, before)
+
+    def test_what_is_returned_may_be_changed(self):
+        lexer = Language(LETS).lexer
+        for mode in lexer.modes:
+            expected = (lexer.kinds(mode), lexer.automaton(mode).states(200))
+            lexer.kinds(mode).clear()
+            states = lexer.automaton(mode).states(200)
+            for rows in states.values():
+                rows.reverse()
+            states.clear()
+            self.assertEqual((lexer.kinds(mode), lexer.automaton(mode).states(200)), expected)
+            self.assertEqual(len(tokens(lexer, "let x")), 3)
+
+
+if __name__ == "__main__":
+    unittest.main()
