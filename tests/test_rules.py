@@ -24,6 +24,8 @@ BARRED_BINDINGS = set(dir(builtins)) | set("""attrgetter compile copyright credi
 BARRED_WORDS = re.compile(r"\b(type|typing|typing_extensions|enum|Enum|IntEnum|StrEnum|Flag|IntFlag|Generic|Protocol"
                           r"|ABC|ABCMeta|namedtuple|NamedTuple|TypedDict|TYPE_CHECKING|abstractmethod)\b"
                           r"|dataclass|overload|contextmanager|_wall|_WallAttr")
+BARRED_BEGINNINGS = re.compile(r"_(wall|pe_|dcw_|enum_|cm_|twin_re_|lay_|law_|stub_|sre|WallAttr)"
+                               r"|_(cold|tuplegetter|outside|record|written_out|member_names)[0-9_]*\Z")
 ONCE = {"zip", "enumerate", "reversed", "map"}
 VIEWS = {"items", "keys", "values"}
 TAKERS = {"list", "tuple", "dict", "sorted", "sum", "any", "all", "enumerate", "zip", "min", "max"}
@@ -158,6 +160,8 @@ class RulesTest(unittest.TestCase):
             top = {id(node) for node in tree.body}
             methods = {id(part) for node in tree.body if isinstance(node, ast.ClassDef) for part in node.body}
             for node in ast.walk(tree):
+                for name in (getattr(node, "name", None), getattr(node, "attr", None), getattr(node, "id", None)):
+                    self.assertIsNone(name and BARRED_BEGINNINGS.match(name), name)
                 if isinstance(node, ast.FunctionDef):
                     if id(node) not in methods:
                         self.assertNotIn(node.name, BARRED_BINDINGS, node.lineno)

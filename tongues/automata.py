@@ -18,7 +18,7 @@ class Automaton:
         self._moved = {}
         self._matched = {}
         for item, tree in enumerate(trees):
-            firsts, lasts = self._lay(tree)
+            firsts, lasts = self._number(tree)
             self._firsts.extend(firsts)
             for place in lasts:
                 self._ended[place] = item
@@ -53,7 +53,7 @@ class Automaton:
             return None
         return found
 
-    def _lay(self, tree):
+    def _number(self, tree):
         """Gives the places of a tree their numbers: the lists of its first and of its last places."""
         sort, inside = tree
         if sort == "chars":
@@ -62,20 +62,20 @@ class Automaton:
             self._followers.append({})
             return [place], [place]
         if sort == "row":
-            return self._lay_row(inside)
+            return self._number_row(inside)
         if sort == "either":
-            return self._lay_either(inside)
-        firsts, lasts = self._lay(inside)
+            return self._number_either(inside)
+        firsts, lasts = self._number(inside)
         if sort != "maybe":
             self._link(lasts, firsts)
         return firsts, lasts
 
-    def _lay_row(self, trees):
+    def _number_row(self, trees):
         firsts = []
         lasts = []
         is_beginning = True
         for tree in trees:
-            inner_firsts, inner_lasts = self._lay(tree)
+            inner_firsts, inner_lasts = self._number(tree)
             self._link(lasts, inner_firsts)
             is_empty = can_be_empty(tree)
             if is_beginning:
@@ -84,11 +84,11 @@ class Automaton:
             is_beginning = is_beginning and is_empty
         return firsts, lasts
 
-    def _lay_either(self, trees):
+    def _number_either(self, trees):
         firsts = []
         lasts = []
         for tree in trees:
-            inner_firsts, inner_lasts = self._lay(tree)
+            inner_firsts, inner_lasts = self._number(tree)
             firsts.extend(inner_firsts)
             lasts.extend(inner_lasts)
         return firsts, lasts
