@@ -36,7 +36,7 @@ def check_part(formula, way):
         check_tuple(formula, way)
     elif isinstance(formula, str):
         check_cell_name(formula, way)
-    elif formula is not None and not -LARGEST <= formula <= LARGEST:
+    elif formula is not None and (isinstance(formula, bool) or not -LARGEST <= formula <= LARGEST):
         raise BadFormula(way, "range")
 
 

@@ -157,9 +157,13 @@ def word_tree(word):
 
 def tokens(lexer, text):
     """The tuple of the tokens of a text."""
+    return tokens_from(lexer, text, lexer.modes[0])
+
+
+def tokens_from(lexer, text, mode):
+    """The tuple of the tokens of a text that begins in a mode."""
     found = []
     at = 0
-    mode = lexer.modes[0]
     while at < len(text):
         token, mode = lexer.token(text, at, mode)
         found.append(token)

@@ -2,7 +2,7 @@
 
 from tongues.errors import TooDeep, TooLong
 from tongues.parsing import MOST_ROWS, Parser
-from tongues.tokens import tokens
+from tongues.tokens import tokens_from
 
 MOST_CHARACTERS = 600
 MOST_TOKENS = 200
@@ -10,18 +10,28 @@ MOST_TOKENS = 200
 
 def tree_of(language, text):
     """The tree of a text, as a tuple of rows. Raises TooLong or TooDeep."""
+    return rule_rows(language, language.start, limited_tokens(language, text))
+
+
+def limited_tokens(language, text):
+    """The list of the tokens of a text that are given to the parser. Raises TooLong."""
     if len(text) > MOST_CHARACTERS:
         raise TooLong("the text has too many characters")
-    given = parser_tokens_of(language, text)
+    given = parser_tokens_of(language, text, language.modes[0])
     if len(given) > MOST_TOKENS:
         raise TooLong("the text has too many tokens")
-    return told_rows(given, Parser(language, given).whole(language.start))
+    return given
 
 
-def parser_tokens_of(language, text):
-    """The list of the tokens of a text that are given to the parser."""
+def parser_tokens_of(language, text, mode):
+    """The list of the tokens of a text, read from a mode, that are given to the parser."""
     lexer = language.lexer
-    return [token for token in tokens(lexer, text) if not lexer.is_skipped(token[0])]
+    return [token for token in tokens_from(lexer, text, mode) if not lexer.is_skipped(token[0])]
+
+
+def rule_rows(language, name, given):
+    """The rows of some tokens that are parsed as a rule. Raises TooDeep."""
+    return told_rows(given, Parser(language, given).whole(name))
 
 
 def told_rows(given, trees):
