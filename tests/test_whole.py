@@ -3,18 +3,32 @@
 import copy
 import unittest
 
+from tongues.attributefaults import attribute_faults, reads_names
 from tongues.automata import Automaton, matches
+from tongues.cells import Cells
+from tongues.expressions import read_expression
+from tongues.facts import check_facts
 from tongues.formulas import check_formula
 from tongues.grammar import faults
 from tongues.languages import Language
+from tongues.lookups import Names, asked, given_out, leads_to, occurrences_of, scopes_of
+from tongues.nodes import Nodes
 from tongues.patterns import can_be_empty, read_pattern, write_pattern
+from tongues.places import place_of
+from tongues.printing import gaps_for, insert_element, remove_element, replace_node
+from tongues.projects import Project
+from tongues.sections import Sections
+from tongues.shapes import Shapes
 from tongues.tables import Tables
 from tongues.texts import (apply_change, carry_place, check_change, invert_change, join_changes,
                            line_and_column)
 from tongues.tokens import Lexer, relex, tokens
 from tongues.trees import problems_of, tree_of
+from tongues.values import gathered, worked
 from tongues.winners import lookahead, winners
+from tests.attributing import attributing
 from tests.languages import CALCULUS, LETS
+from tests.naming import naming
 
 
 def numbers_in(value):
@@ -41,6 +55,51 @@ class WholeProgramTest(unittest.TestCase):
             numbers = numbers_in(value)
             self.assertTrue(numbers)
             self.assertEqual({type(number) for number in numbers}, {int}, value)
+
+    def test_whole_numbers_of_parts_e_to_h(self):
+        language, naming_language = Language(LETS), naming()
+        cells = Cells()
+        cells.define("a", ("if", ("cyclic", "a"), 1, ("plus", 1, 2)))
+        cells.define("b", ("plus", ("cyclic", "a"), 1))
+        cells.define("c", ("cyclic", "d"))
+        cells.define("e", ("plus", "b", "c"))
+        project = Project({"a": naming_language}, {"m": ("a", "{ show x; } fun x { } show . x of x;")})
+        names = Names(project)
+        faulty = Language(attributing(checks=[("let", "1", "2")], equations=[]))
+        told = [cells.ask("b"), cells.ask("c"), [cells.ask("e"), cells.reads("e")], cells.trim(),
+                place_of(language, [(None, None, "node", "file", 0, 1)], 0),
+                replace_node(language, "show 1;", 3, "2")[:2], insert_element(language, "", 0, "items", 0, "show 1;", ""),
+                remove_element(language, "show 1;", 1), gaps_for(language, ["a", "b"]), scopes_of(project, "m"),
+                occurrences_of(project, "m"), leads_to(project, "m", 7), asked(project, "m", 7),
+                given_out(project, "m", "values", "x"), [names.row_leads("m", row) for row in range(30)],
+                read_expression("(add 1 -2)"), worked("length", [("text", "a")]), gathered("sum", [], None),
+                Nodes(language, ((None, None, "node", "file", 0, 0),)).numbers(), attribute_faults(faulty),
+                reads_names(Language(attributing()))]
+        for value in told:
+            numbers = numbers_in(value)
+            self.assertTrue(numbers, value)
+            self.assertEqual({type(number) for number in numbers}, {int}, value)
+
+    def test_arguments_of_parts_e_to_h_are_not_changed(self):
+        sections = attributing()
+        languages = {"b": Language(sections), "a": naming()}
+        files = {"n": ["a", "var x;"], "m": ["b", "let a = 1;"]}
+        texts, values = ["a", "b"], [("integer", 1), ("integer", 2)]
+        tree = list(tree_of(languages["b"], "let a = 1;"))
+        given = [sections, files, texts, values, tree, list(languages)]
+        before = copy.deepcopy(given)
+        project = Project(languages, files).with_texts({"n": "var y;"})
+        leads_to(project, "n", 4)
+        check_facts(languages["a"])
+        gaps_for(languages["b"], texts)
+        worked("add", values)
+        gathered("sum", values, None)
+        place_of(languages["b"], tree, 0)
+        Nodes(languages["b"], tree).numbers()
+        Shapes(languages["b"]).can_be("sum")
+        Sections(languages["b"])
+        attribute_faults(languages["b"])
+        self.assertEqual(given[:-1] + [list(languages)], before)
 
     def test_arguments_are_not_changed(self):
         sections = copy.deepcopy(CALCULUS)
