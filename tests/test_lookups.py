@@ -9,10 +9,10 @@ from tongues.grammar import faults
 from tongues.languages import Language
 from tongues.lookups import Names, NoOccurrence, asked, given_out, leads_to, occurrences_of, scopes_of
 from tongues.projects import Project
-from tests.derivations import Deriver
 from tests.languages import language_of
 from tests.naming import PRIVATE, naming
 from tests.raising import raised
+from tests.randomtexts import naming_text
 from tests.slownames import Slow
 
 LANGUAGE = naming()
@@ -497,25 +497,6 @@ class NamesTest(unittest.TestCase):
 class ComparedTest(unittest.TestCase):
     """Everything is compared with another way to it, for random projects, some of them with broken texts."""
 
-    SAMPLES = {"word": "mnopx", "number": "12", "quote": ("'m'", "'n'", "'o'", "'x'")}
-
-    def text(self, rng, deriver, size):
-        text = ""
-        while len(text) < size:
-            deriver.events = []
-            deriver.rule("item", 3)
-            kinds = deriver.kinds()
-            if rng.random() < 0.2:
-                del kinds[rng.randrange(len(kinds))]
-            words = [kind[1] if kind[0] == "word" else rng.choice(self.SAMPLES[kind[1]]) for kind in kinds[:40]]
-            if rng.random() < 0.2:
-                words = rng.choice(("box m { var x; let o = n; }", "show . x of in m;", "fun n { fun o { var p; } }",
-                                    "show . p of [. o of n];", "take o: box m, n;", "hand m: n, box m;")).split()
-            if len(text) + len(" ".join(words)) > 500:
-                break
-            text += " ".join(words) + rng.choice((" ", "\n"))
-        return text
-
     def check(self, project):
         slow, names = Slow(project), Names(project)
         met = {"leads": 0, "within": 0}
@@ -549,9 +530,8 @@ class ComparedTest(unittest.TestCase):
         total = {"leads": 0, "within": 0}
         for seed in range(40):
             rng = random.Random(seed)
-            deriver = Deriver(LANGUAGE, rng)
             languages = {"open": LANGUAGE, "hidden": HIDDEN}
-            files = {name: (rng.choice(("open", "open", "open", "hidden")), self.text(rng, deriver, rng.choice((0, 60, 200))))
+            files = {name: (rng.choice(("open", "open", "open", "hidden")), naming_text(rng, LANGUAGE, rng.choice((0, 60, 200))))
                      for name in "mno"[:rng.randint(1, 3)]}
             for key, number in self.check(Project(languages, files)).items():
                 total[key] += number

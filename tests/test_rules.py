@@ -125,7 +125,8 @@ class RulesTest(unittest.TestCase):
                     self.assertIsInstance(node.exc, ast.Call)
                     self.assertIsInstance(node.exc.func, ast.Name)
                 if isinstance(node, ast.ExceptHandler):
-                    self.assertIsInstance(node.type, ast.Name)
+                    caught = node.type.elts if isinstance(node.type, ast.Tuple) else [node.type]
+                    self.assertTrue(all(isinstance(one, ast.Name) for one in caught), node.lineno)
                 self.assertNotIsInstance(node, (ast.Yield, ast.YieldFrom, ast.Await, ast.NamedExpr, ast.Div))
 
     def test_values(self):

@@ -34,17 +34,13 @@ class Search:
         while asked_posts < len(self.posts):
             post = self.posts[asked_posts]
             asked_posts += 1
-            rows = self._standing(post)
+            rows = self.standing(post)
             self.found.extend([(post[1], row) for row in rows])
             if not rows:
                 self.posts.extend(self._unknown(self._followers(post)))
         self.found = sorted(self.found)
 
-    def _unknown(self, posts):
-        """Those of some posts that are not known yet, each once."""
-        return [post for place, post in enumerate(posts) if post not in self.posts and post not in posts[:place]]
-
-    def _standing(self, post):
+    def standing(self, post):
         """The list of the rows of the declarations that stand at a post."""
         if not self._names.has_file(post[1]):
             return []
@@ -53,6 +49,10 @@ class Search:
             return [one.row for one in names.given(self._space, self._name)]
         declared = names.declarations(post[2], self._space, self._name)
         return [one.row for one in declared if post[0] == "member" or one.is_seen_from(self._start)]
+
+    def _unknown(self, posts):
+        """Those of some posts that are not known yet, each once."""
+        return [post for place, post in enumerate(posts) if post not in self.posts and post not in posts[:place]]
 
     def _followers(self, post):
         """The list of the posts that follow a post at which no declaration stands."""
@@ -65,10 +65,14 @@ class Search:
 
 
 class Names:
-    """What the names of a project lead to; what was found is kept."""
+    """What the names of a project lead to; what was found is kept.
 
-    def __init__(self, project):
+    `renamed` is a dict from pairs (file, row) to names that tokens have in place of their texts.
+    """
+
+    def __init__(self, project, renamed=None):
         self._project = project
+        self._renamed = {} if renamed is None else {place: renamed[place] for place in renamed}
         self._files = {}
         self._ways = {}
 
@@ -84,14 +88,24 @@ class Names:
         """The names of a file. Raises NoFile."""
         if file not in self._files:
             tree = self._project.tree(file)
-            self._files[file] = FileNames(self._project.language(file), self._project.text(file), tree)
+            renamed = {row: name for (other, row), name in self._renamed.items() if other == file}
+            self._files[file] = FileNames(self._project.language(file), self._project.text(file), tree, renamed)
         return self._files[file]
 
+    def occurrences(self):
+        """The list of the pairs of a file and an occurrence, in the order of the files and of the text."""
+        return [(file, one) for file in self._project.file_names() for one in self.of_file(file).occurrences]
+
+    def leads_of(self, token):
+        """The tuple of the declarations, each (file, start, stop), to which a token (file, start, stop) leads."""
+        occurrence = self.of_file(token[0]).starting_at(token[1])
+        return () if occurrence is None else self.places(self.row_leads(token[0], occurrence.row))
+
     def way_of(self, file, row):
-        """The tuples of the posts that are asked for the token of a row and of the declarations to which it leads."""
+        """The posts that are asked for the token of a row, the declarations to which it leads, and its first post."""
         occurrence = self.of_file(file).occurrence(row)
         if occurrence is None:
-            return ((), ())
+            return ((), (), None)
         if (file, row) not in self._ways:
             self._ways[file, row] = self._found_way(file, occurrence)
         return self._ways[file, row]
@@ -107,10 +121,10 @@ class Names:
         if occurrence.role == "refers" and occurrence.rest:
             posts, first = self._within(file, occurrence)
         if first is None:
-            return (posts, ())
+            return (posts, (), None)
         search = Search(self, occurrence.space, occurrence.name, occurrence.start)
         search.go_from(first)
-        return (posts + tuple(search.posts), tuple(search.found))
+        return (posts + tuple(search.posts), tuple(search.found), first)
 
     def _first_post(self, file, occurrence):
         """The first post of an occurrence that does not refer within a child, None if there is none."""
@@ -126,7 +140,7 @@ class Names:
         row = self.of_file(file).own_reference(occurrence)
         if row is None:
             return ((), None)
-        posts, leads = self.way_of(file, row)
+        posts, leads, _ = self.way_of(file, row)
         if len(leads) != 1:
             return (posts, None)
         names = self.of_file(leads[0][0])

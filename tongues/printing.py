@@ -6,7 +6,7 @@ from tongues.places import fits, place_of
 from tongues.signs import mode_at, signs_of, whole_reading
 from tongues.sketches import bracketed, end_of, placed, sketch_of, without, word_row
 from tongues.trees import limited_tokens, parser_tokens_of, tree_of
-from tongues.writing import GAP, written
+from tongues.writing import GAP, part_place, written
 
 
 class NoNode(TongueError):
@@ -41,6 +41,12 @@ class NoBrackets(TongueError):
 
 def replace_node(language, text, row, expression):
     """The change that puts an expression in place of a node, the number of gaps, and whether brackets were put in."""
+    change, gaps, is_bracketed, _ = placed_replacement(language, text, row, expression)
+    return (change, gaps, is_bracketed)
+
+
+def placed_replacement(language, text, row, expression):
+    """The same, and the position in the new text at which the expression begins."""
     tree = tree_of(language, text)
     limited_tokens(language, expression)
     if not is_node_with_tokens(tree, row):
@@ -59,11 +65,17 @@ def replace_node(language, text, row, expression):
     old = sketch_of(tree)
     wanted = old[:row] + placed(inner, old[row][0], old[row][1]) + old[end_of(old, row):]
     change, gaps = carried_out(language, text, (start, stop), parts, wanted)
-    return (change, gaps, is_bracketed)
+    return (change, len(gaps), is_bracketed, part_place(start, parts, gaps, 1 if is_bracketed else 0))
 
 
 def insert_element(language, text, row, field, index, element, blank):
     """The change that puts an element into a list, and the number of gaps."""
+    change, gaps, _ = placed_insertion(language, text, row, field, index, element, blank)
+    return (change, gaps)
+
+
+def placed_insertion(language, text, row, field, index, element, blank):
+    """The same, and the position in the new text at which the element begins."""
     tree = tree_of(language, text)
     part = list_part(language, tree, row, field)
     if part is None:
@@ -83,9 +95,11 @@ def insert_element(language, text, row, field, index, element, blank):
     if part[3] is not None and listing.nodes:
         rows = ordered(index < len(listing.nodes), rows, [word_row(depth, field, part[3])])
         parts = ordered(index < len(listing.nodes), parts, [word_part(part[3])])
-    parts = insertion_parts(listing, index, parts, (blank, []))
+    is_first = index < len(listing.nodes) or position == 0
+    parts = parts + [(blank, [])] if is_first else parts[:-1] + [(blank, [])] + parts[-1:]
     at = listing.row_ahead(index)
-    return carried_out(language, text, (position, position), parts, old[:at] + rows + old[at:])
+    change, gaps = carried_out(language, text, (position, position), parts, old[:at] + rows + old[at:])
+    return (change, len(gaps), part_place(position, parts, gaps, 0 if is_first else len(parts) - 1))
 
 
 def remove_element(language, text, row):
@@ -97,8 +111,9 @@ def remove_element(language, text, row):
     if part is None:
         raise NoElement("the row is no element of a list")
     listing = Listing(language, tree, tree[row][0], part)
-    return carried_out(language, text, listing.stretch_of(row), [],
-                       without(sketch_of(tree), listing.rows_to_remove(row)))
+    wanted = without(sketch_of(tree), listing.rows_to_remove(row))
+    change, gaps = carried_out(language, text, listing.stretch_of(row), [], wanted)
+    return (change, len(gaps))
 
 
 def gaps_for(language, texts):
@@ -144,15 +159,8 @@ def ordered(is_ahead, rows, others):
     return rows + others if is_ahead else others + rows
 
 
-def insertion_parts(listing, index, parts, blank):
-    """An element, with the word between if there is one, and the blank, in the order in which they are put in."""
-    if index < len(listing.nodes) or listing.position(index) == 0:
-        return parts + [blank]
-    return parts[:-1] + [blank] + parts[-1:]
-
-
 def carried_out(language, text, stretch, parts, wanted):
-    """The change and the number of its gaps. Raises NotWritable if what is wanted cannot be carried out."""
+    """The change and the places of its gaps. Raises NotWritable if what is wanted cannot be carried out."""
     done = written(language, text, stretch, parts, wanted)
     if done is None:
         raise NotWritable("no text has what is wanted")

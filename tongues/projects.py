@@ -27,13 +27,12 @@ class NoFile(TongueError):
 class Project:
     """Languages and files by their names, with the trees of the files."""
 
-    def __init__(self, languages, files):
+    def __init__(self, languages, files, earlier=None):
         self._languages = {name: languages[name] for name in sorted(languages)}
         self._files = {name: tuple(files[name]) for name in sorted(files)}
         check_languages(self._languages)
         check_files(self._files, self._languages)
-        self._trees = {name: tree_of(self._languages[language], text)
-                       for name, (language, text) in self._files.items()}
+        self._trees = {name: self._made_tree(name, earlier) for name in self._files}
 
     def file_names(self):
         """The ascending list of the names of the files."""
@@ -52,10 +51,31 @@ class Project:
         self._pair(file)
         return self._trees[file]
 
+    def language_name(self, file):
+        """The name of the language of a file."""
+        return self._pair(file)[0]
+
+    def languages(self):
+        """A dict from the names of the languages, ascending, to the languages."""
+        return {name: self._languages[name] for name in self._languages}
+
+    def files(self):
+        """A dict from the names of the files, ascending, to pairs (name of a language, text)."""
+        return {name: self._files[name] for name in self._files}
+
     def with_texts(self, texts):
         """The project in which the files that are keys of a dict have the texts in it."""
         files = {name: (language, texts.get(name, text)) for name, (language, text) in self._files.items()}
-        return Project(self._languages, files)
+        return Project(self._languages, files, self)
+
+    def _made_tree(self, file, earlier):
+        """The tree of a file; that of an earlier project, if it is the tree of the same text."""
+        language, text = self.language(file), self.text(file)
+        # A tree takes long to make, and most files stay as they are from one project to the next.
+        if earlier is not None and file in earlier.file_names():
+            if earlier.language(file) == language and earlier.text(file) == text:
+                return earlier.tree(file)
+        return tree_of(language, text)
 
     def _pair(self, file):
         """The name of the language of a file, and its text. Raises NoFile."""

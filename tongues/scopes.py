@@ -35,23 +35,32 @@ class FileNames:
     """The scopes and the occurrences of a file, and what it brings and lists.
 
     `scopes` is the list of (start, stop, node, around), `occurrences` the list of the occurrences
-    in the order of the text.
+    in the order of the text. `renamed` is a dict from rows to names that tokens have in place of
+    their texts.
     """
 
-    def __init__(self, language, text, tree):
+    def __init__(self, language, text, tree, renamed):
         self._facts = NodeFacts(language)
         self._language = language
         self._text = text
         self._tree = tree
         self.scopes = [(0, len(text), None, None)]
+        self.occurrences = []
+        self._renamed = renamed
         self._opened = {}
         self._lying = []
+        self._below = [[] for _ in tree]
         for row in range(len(tree)):
             self._take_row(row)
-        self.occurrences = []
         for row in range(len(tree)):
             self._take_occurrence(row)
         self._of_rows = {occurrence.row: occurrence for occurrence in self.occurrences}
+        self._of_starts = {occurrence.start: occurrence for occurrence in self.occurrences}
+        self._declared = {}
+        self._introducing = {}
+        for occurrence in self.occurrences:
+            self._take_name(occurrence)
+        self._brought = self._bringing_rows()
 
     def occurrence(self, row):
         """The occurrence in a row, None if there is none."""
@@ -64,14 +73,21 @@ class FileNames:
                 return occurrence.row
         return None
 
+    def starting_at(self, position):
+        """The occurrence that begins at a position, None if there is none."""
+        return self._of_starts.get(position)
+
     def opened_scope(self, row):
         """The number of the scope that the node in a row opens, None if it opens none."""
         return self._opened.get(row)
 
+    def is_left_out(self, row, field):
+        """True if a field of the node in a row lies outside of the scope that the node opens."""
+        return field in self._facts.left_out(self._tree[row][3])
+
     def declarations(self, scope, space, name):
         """The list of the declarations of a name in a space that are declared in a scope."""
-        return [one for one in self.occurrences
-                if one.role == "declares" and (one.scope, one.space, one.name) == (scope, space, name)]
+        return list(self._declared.get((scope, space, name), []))
 
     def given(self, space, name):
         """The list of the declarations of a name in a space that the file gives out."""
@@ -82,11 +98,28 @@ class FileNames:
 
         If `is_handing` is True, only what is handed on counts. The empty text stands for no file.
         """
-        listed = [one for one in self.occurrences if self._is_introducing(one, space, name)]
-        found = [self.listed_file(one) for one in listed if not is_handing or self._is_handed_on(one)]
+        listed = self._introducing.get((space, name), [])
+        found = [self.listed_file(one) for one in listed if not is_handing or self.is_handed_on(one)]
         if not found:
             return self._whole_files(is_handing)
         return ["" if file is None else file for file in found]
+
+    def is_introducing(self, occurrence):
+        """True for a listed name that introduces its name."""
+        return occurrence.role == "lists" and not self._facts.is_declaring(self._tree[occurrence.node][3])
+
+    def is_handed_on(self, occurrence):
+        """True if a listed name is handed on."""
+        row = self._bringing_row(occurrence)
+        return row is not None and "gives" in self._facts.bringing(self._tree[row][3])[3:]
+
+    def brought_files(self):
+        """The list of the pairs of the row of a node that brings and of the file's name, None if that is missing."""
+        return [(row, self._file_name(row)) for row in self._brought]
+
+    def file_token(self, row):
+        """The row of the token that names the file that the node in a row brings, None if it is missing."""
+        return self._child_of_sort(row, self._facts.bringing(self._tree[row][3])[2], "token")
 
     def listed_file(self, occurrence):
         """The name of the file that a listed name lists from, None if there is none."""
@@ -109,6 +142,8 @@ class FileNames:
     def _take_row(self, row):
         """Settles in which scope a row lies, and the scope that it opens."""
         around, field, sort, name, start, stop = self._tree[row]
+        if around is not None:
+            self._below[around].append(row)
         if around is None:
             self._lying.append(0)
         elif around in self._opened and field not in self._facts.left_out(self._tree[around][3]):
@@ -130,13 +165,21 @@ class FileNames:
         scope = self._lying[row]
         if fact[0] == "declares":
             scope = self._opened[around] if "inside" in fact[4:] else self._lying[around]
-        self.occurrences.append(Occurrence(row, self._text[start:stop], fact, scope, self._tree))
+        name = self._renamed.get(row, self._text[start:stop])
+        self.occurrences.append(Occurrence(row, name, fact, scope, self._tree))
 
-    def _is_introducing(self, occurrence, space, name):
-        """True for a listed name that introduces a name in a space."""
-        if occurrence.role != "lists" or (occurrence.space, occurrence.name) != (space, name):
-            return False
-        return not self._facts.is_declaring(self._tree[occurrence.node][3])
+    def _take_name(self, occurrence):
+        """Keeps an occurrence by its name, if it declares or introduces it."""
+        space, name = occurrence.space, occurrence.name
+        if occurrence.role == "declares":
+            self._declared.setdefault((occurrence.scope, space, name), []).append(occurrence)
+        if self.is_introducing(occurrence):
+            self._introducing.setdefault((space, name), []).append(occurrence)
+
+    def _bringing_rows(self):
+        """The list of the rows of the nodes that bring files."""
+        return [row for row, (_, _, sort, name, _, _) in enumerate(self._tree)
+                if sort == "node" and self._facts.bringing(name) is not None]
 
     def _bringing_row(self, occurrence):
         """The row of the innermost node around a listed name that brings a file, None if there is none."""
@@ -145,26 +188,20 @@ class FileNames:
             row = self._tree[row][0]
         return row
 
-    def _is_handed_on(self, occurrence):
-        """True if a listed name is handed on."""
-        row = self._bringing_row(occurrence)
-        return row is not None and "gives" in self._facts.bringing(self._tree[row][3])[3:]
-
     def _file_name(self, row):
         """The name of the file that the node in a row brings, None if its token is missing."""
-        fact = self._facts.bringing(self._tree[row][3])
-        token = self._child_of_sort(row, fact[2], "token")
+        token = self.file_token(row)
         if token is None:
             return None
         name = self._text[self._tree[token][4]:self._tree[token][5]]
-        return name[1:-1] if "quoted" in fact[3:] else name
+        return name[1:-1] if "quoted" in self._facts.bringing(self._tree[row][3])[3:] else name
 
     def _whole_files(self, is_handing):
         """The list of the files that are brought whole, if `is_handing` is True only of those that are handed on."""
         found = []
-        for row, (_, _, sort, name, _, _) in enumerate(self._tree):
-            fact = self._facts.bringing(name) if sort == "node" else None
-            if fact is not None and "whole" in fact[3:] and ("gives" in fact[3:] or not is_handing):
+        for row in self._brought:
+            flags = self._facts.bringing(self._tree[row][3])[3:]
+            if "whole" in flags and ("gives" in flags or not is_handing):
                 found.append(self._file_name(row))
         return [file for file in found if file is not None]
 
@@ -174,7 +211,7 @@ class FileNames:
 
     def _child_of_sort(self, row, field, sort):
         """The first row of a sort in a field of the node in a row, None if there is none."""
-        for number in range(row + 1, len(self._tree)):
-            if self._tree[number][:3] == (row, field, sort):
+        for number in self._below[row]:
+            if self._tree[number][1:3] == (field, sort):
                 return number
         return None

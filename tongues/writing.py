@@ -8,7 +8,7 @@ GAP = " "
 
 
 def written(language, text, stretch, parts, wanted):
-    """The change and the number of its gaps, None if what is wanted cannot be carried out.
+    """The change and the places of its gaps, None if what is wanted cannot be carried out.
 
     A part is the pair of a text and the list of its signs; `wanted` is a sketch. Raises TooLong and TooDeep.
     """
@@ -28,7 +28,7 @@ def written(language, text, stretch, parts, wanted):
             shift = len(new_text) - len(text)
             if not are_kept(ahead, behind, shift, new_given) or sketch_of(tree_of(language, new_text)) != wanted:
                 return None
-            return (((start, stop, put),), len(gaps))
+            return (((start, stop, put),), gaps)
     return None
 
 
@@ -48,6 +48,12 @@ def with_gaps(parts, gaps):
     for place, part in enumerate(parts):
         put = put + (GAP if place in gaps else "") + part
     return put + (GAP if len(parts) in gaps else "")
+
+
+def part_place(start, parts, gaps, number):
+    """Where a part begins in the new text, if parts are put in at start with gaps at some places."""
+    ahead = [text for text, _ in parts[:number]]
+    return start + sum([len(text) for text in ahead]) + len(GAP) * len([place for place in gaps if place <= number])
 
 
 def are_kept(ahead, behind, shift, new_given):
