@@ -43,3 +43,49 @@ def evaluating_text(rng, language, size):
             break
         text += " ".join(words) + rng.choice((" ", "\n"))
     return text
+
+
+MODULES = {"word": "abcmn", "number": "12", "quote": ("'m'", "\"n\"", "'o'", "'x'", "`m`")}
+MODULES_MORE = ("def a = 1 + 2 ;", "def b = a * 3 ;", "def c = ( 1 + a ) ;", "var b = 2 ;", "show a + b ;", "show c * c ;",
+                "measure a ;", "show in a ;", "show 1 + 2 ;", "show call a [ 1 + 2 , b ] ;", "late b = 1 + 2 ;")
+MODULES_AHEAD = ("use 'm' ;", "use \"n\" ;", "from m take a ;", "from n take a , b ;", "from m take ren a as c , b ;",
+                 "hand 'm' take unit a , a ;", "hand \"o\" take b ;", "from o take c , a ;", "from m take unit a ;")
+
+
+def modules_text(rng, language, size):
+    """A text in the language with imports and definitions."""
+    text, deriver = "", Deriver(language, rng)
+    while rng.random() < 0.5:
+        text += rng.choice(MODULES_AHEAD) + rng.choice((" ", "\n"))
+    while len(text) < size:
+        words = random_words(rng, deriver, MODULES, 3, 30)
+        if rng.random() < 0.7:
+            words = rng.choice(MODULES_MORE).split()
+        if len(text) + len(" ".join(words)) > 300:
+            break
+        text += rng.choice((" ", " ", "")).join(words) if rng.random() < 0.1 else " ".join(words)
+        text += rng.choice((" ", "\n"))
+    return text
+
+
+def modules_files(rng):
+    """The texts of files with names of their own, which import from one another what they use, mostly."""
+    own = {"m": "abc", "n": "def", "o": "ghi"}
+    files = {file: "" for file in "mno"[:rng.randint(2, 3)]}
+    for file in files:
+        known = own[file]
+        for other in files:
+            names = rng.sample(own[other], rng.randint(1, 2)) if rng.random() < 0.7 else []
+            if other != file and names:
+                ways = (f"use '{other}' ;", f"from {other} take {' , '.join(names)} ;", f"hand '{other}' take {' , '.join(names)} ;",
+                        f"from {other} take ren {names[0]} as x , {names[-1]} ;", f"hand \"{other}\" take unit {names[0]} ;")
+                files[file] += rng.choice(ways[:3] + ways) + rng.choice((" ", "\n"))
+                known += "".join(names) + "x" * (rng.random() < 0.2)
+        for _ in range(rng.randint(1, 5)):
+            one, two, name = rng.choice(known), rng.choice(known), rng.choice(own[file])
+            items = (f"def {name} = {one} + 1 ;", f"def {name} = 1 + 2 ;", f"def {name} = ( 2 * {one} ) ;", f"show {one} + {two} ;",
+                     f"show {one} * 2 ;", f"late {name} = 1 ;", f"show 1 + 2 ;", f"measure {name} ;", f"show in {one} ;",
+                     f"{{ def {name} = 2 ; show {name} + {one} ; }}", f"show call {one} [ 1 + 2 , ~ {two} ] ;", f"var {name} = {one} ;",
+                     f"show . {one} of {two} ;", f"def {name} = {two} note {one} ;")
+            files[file] += rng.choice(items[:6] + items) + rng.choice((" ", "\n"))
+    return files

@@ -3,20 +3,27 @@
 import copy
 import unittest
 
+from tongues.answers import Answers
 from tongues.attributefaults import attribute_faults, reads_names
 from tongues.automata import Automaton, matches
+from tongues.carrying import carried_tokens, differing, parser_tokens
 from tongues.cells import Cells
 from tongues.expressions import read_expression
 from tongues.facts import check_facts
 from tongues.formulas import check_formula
 from tongues.grammar import faults
+from tongues.inlining import extract, inline
 from tongues.languages import Language
 from tongues.lookups import Names, asked, given_out, leads_to, occurrences_of, scopes_of
+from tongues.moving import move
 from tongues.nodes import Nodes
 from tongues.patterns import can_be_empty, read_pattern, write_pattern
 from tongues.places import place_of
 from tongues.printing import gaps_for, insert_element, remove_element, replace_node
+from tongues.problems import problems
 from tongues.projects import Project
+from tongues.renaming import clashes, rename
+from tongues.saving import saving
 from tongues.sections import Sections
 from tongues.shapes import Shapes
 from tongues.tables import Tables
@@ -26,8 +33,11 @@ from tongues.tokens import Lexer, relex, tokens
 from tongues.trees import problems_of, tree_of
 from tongues.values import gathered, worked
 from tongues.winners import lookahead, winners
+from tongues.workbench import Workbench
 from tests.attributing import attributing
+from tests.evaluating import evaluating
 from tests.languages import CALCULUS, LETS
+from tests.modules import modules
 from tests.naming import naming
 
 
@@ -100,6 +110,47 @@ class WholeProgramTest(unittest.TestCase):
         Sections(languages["b"])
         attribute_faults(languages["b"])
         self.assertEqual(given[:-1] + [list(languages)], before)
+
+    def test_whole_numbers_of_parts_h_to_l(self):
+        project = Project({"a": evaluating()}, {"m": ("a", "use 'n'; let b = 1; show (b + 2); let c = c;"), "n": ("a", "show b")})
+        answers, workbench = Answers(project), Workbench()
+        workbench.set_language("a", modules())
+        for file, text in (("m", "def b = 1 + 2; show b; show 1 + 2;"), ("n", "use 'm'; show b;")):
+            workbench.open_file(file, "a", text)
+        changed = workbench.project()
+        change = {"n": ((0, 9, ""),)}
+        after = changed.with_texts({"n": "show b;"})
+        pairs = carried_tokens(changed, after, change)
+        told = [[answers.instances.values("m", row) for row in (0, 5)], answers.instances.reads("m", 0, "told"),
+                answers.instances.rings(), answers.definition("m", 26), answers.uses("m", 26), answers.outline("m"),
+                [answers.node_at("m", 3)], answers.visible("m", 30, "values"), answers.hover("m", 26),
+                answers.explain("m", 0, "told"), problems(answers, "m"), parser_tokens(project, "m"), pairs,
+                differing(changed, after, pairs), rename(project, "m", 13, "q"), clashes(project, "m", 13, "c"),
+                saving(project, "m", 13, "c"), move(changed, "m", 4, "n", 0), inline(changed, "m", 4),
+                extract(changed, "m", 8, 13, "q", every=True), [workbench.version()], workbench.made_from()[1:]]
+        for value in told:
+            numbers = [number for number in numbers_in(value) if number is not True and number is not False]
+            self.assertTrue(numbers, value)
+            self.assertEqual({type(number) for number in numbers}, {int}, value)
+        # True and False are only the values of booleans.
+        booleans = [number for value in told[1:6] + told[11:] for number in numbers_in(value) if number is True or number is False]
+        self.assertEqual(booleans, [])
+
+    def test_arguments_of_parts_j_to_l_are_not_changed(self):
+        workbench = Workbench()
+        workbench.set_language("a", modules())
+        workbench.open_file("m", "a", "def b = 1; show b;")
+        before = workbench.project()
+        changes = {"m": [[0, 0, "show 1; "]], "x": []}
+        after = before.with_texts({"m": "show 1; def b = 1; show b;"})
+        pairs = [list(pair) for pair in carried_tokens(before, after, changes)]
+        given = copy.deepcopy([changes, pairs])
+        differing(before, after, [tuple(pair) for pair in pairs])
+        workbench.edit({"m": changes["m"]})
+        for function in (inline, lambda project, file, at: rename(project, file, at, "c")):
+            function(before, "m", 4).clear()
+        self.assertEqual([changes, pairs], given)
+        self.assertEqual((before.text("m"), len(inline(before, "m", 4))), ("def b = 1; show b;", 1))
 
     def test_arguments_are_not_changed(self):
         sections = copy.deepcopy(CALCULUS)
