@@ -7,12 +7,13 @@ from tongues.candidates import Differs, Refused
 from tongues.errors import TooDeep, TooLong, TongueError
 from tongues.facts import check_facts
 from tongues.grammar import faults
+from tongues.imports import check_imports
 from tongues.languages import Language
 from tongues.moving import move
 from tongues.projects import Project
 from tongues.texts import apply_change
 from tests.languages import TOKENS
-from tests.modules import IMPORTS, NAMES, RULES, modules
+from tests.modules import IMPORTS, RULES, modules
 from tests.modules import TOKENS as MODULE_TOKENS
 from tests.raising import raised
 from tests.randomtexts import modules_files, modules_text
@@ -134,6 +135,12 @@ class RefusedTest(MoveTest):
         self.assertTrue(self.moved([text, ""], "a", "n", 0, " ")[0].startswith("use \"n\" ; show a"))
         self.refused([text, ""], "a", "n", 0, "import", "m", 16, "   ")
 
+    def test_put_comes_ahead_of_what_is_needed(self):
+        self.language = modules(imports=[])
+        texts = ["from o take c, ren d as y; show c;", "$ from o take c;", "def c = 1; def d = 2;"]
+        self.refused([texts[0], "", texts[2]], "y", "n", 0, "import", "m", 32)
+        self.refused([texts[0], "a" * 600, texts[2]], "y", "n", 0, "put")
+
     def test_put_in_the_end(self):
         """The declaration is taken out again, as the listed name in its import needs something."""
         self.refused(["from m take ren x as x;", ""], 21, "n", 0, "put")
@@ -197,6 +204,12 @@ class BagsTest(MoveTest):
             self.assertEqual([row for row in self.project(text).tree("m") if row[2] == "node"], [])
             self.refused(["box def a", text], "a", "n", 0, "put")
             self.refused(["box def a", text], "a", "n", 1, "index")
+
+    def test_what_is_skipped_ahead_of_the_outermost_node(self):
+        self.assertEqual([row[2] for row in self.project("$ box def a $").tree("m") if row[0] is None], ["skipped", "node"])
+        self.assertEqual(self.moved(["box def a", "$ box def d"], "a", "n", 1), ["box ", "$ box def d,def a"])
+        self.refused(["$ box def a, def b", "$ box def d"], "a", "n", 2, "index")
+        self.assertEqual(self.moved(["$ box def a, def b", "box"], "a", "n", 0), ["$ box def b", "box def a"])
 
     def test_a_target_without_the_list(self):
         text = "bag own def b def c"
@@ -283,6 +296,52 @@ class NeedsTest(MoveTest):
         self.assertEqual(self.moved(["def a = 1; show a;", ""], "a", "n", 0, " ")[0], "hand \"n\" take a ; show a;")
         self.language = modules(imports=[("import", "use", "file", "items")])
         self.refused(["def a = 1; show a;", ""], "a", "n", 0, "import", "m", 16)
+
+    def test_a_row_that_cannot_be_written(self):
+        """An item that needs another name as well, and an import that needs another token."""
+        # The first row that describes the import counts for it; a new import is put in by the next row.
+        self.language = modules(imports=[IMPORTS[1], IMPORTS[0]])
+        self.assertEqual(self.moved(["from n take d; def a = 1; show a;", "def d = 2;"], "a =", "n", 0, " ")[0],
+                         "from n take a ; from n take d; show a;")
+        rules = [("node", "use", [*rule[2], ("token", "number", "more")]) if rule[1] == "use" else rule for rule in RULES]
+        self.language = modules(rules=rules, imports=[IMPORTS[4], IMPORTS[3]])
+        self.assertEqual(self.moved(["def a = 1; show a;", ""], "a", "n", 0, " ")[0], "hand \"n\" take a ; show a;")
+        self.language = modules(rules=rules, imports=[IMPORTS[4]])
+        self.refused(["def a = 1; show a;", ""], "a", "n", 0, "import", "m", 16)
+
+    def test_a_name_that_the_outermost_node_lists(self):
+        language = Language({
+            "tokens": TOKENS, "start": "file", "spaces": ["v"],
+            "rules": [("node", "file", [("maybe", "from", "from"), ("many", "def", "defs")]),
+                      ("node", "from", [("word", "from"), ("token", "word", "file"), ("many", "name", "names")]),
+                      ("node", "name", [("word", "!"), ("token", "word", "name")]),
+                      ("node", "def", [("word", "def"), ("token", "word", "name")])],
+            "names": [("declares", "def", "name", "v", "gives"), ("brings", "from", "file"), ("lists", "name", "name", "v")],
+            "imports": [("import", "from", "file", "defs", "names", "name", "name")]})
+        self.assertEqual((faults(language), check_facts(language), check_imports(language)), ([], None, None))
+        self.language = language
+        # The item can be taken out of its list, but the import that has nothing else is in none.
+        self.refused(["def a", "", "from m ! a"], "a", "n", 0, "import", "o", 9)
+        # An import of the other file cannot be put in, as it does not fit the list.
+        self.refused(["def a def b", "", "from m ! b ! a"], "a", "n", 0, "import", "o", 13)
+        self.assertEqual(self.moved(["def a def b", "from m ! b ! a"], "a", "n", 0, " "), ["def b", "from m ! b def a"])
+        whole = Language({
+            "tokens": TOKENS, "start": "file", "spaces": ["v"],
+            "rules": [("node", "file", [("maybe", "from", "from"), ("many", "def", "defs")]),
+                      ("node", "from", [("word", "from"), ("token", "word", "file"), ("token", "word", "name")]),
+                      ("node", "def", [("word", "def"), ("token", "word", "name")])],
+            "names": [("declares", "def", "name", "v", "gives"), ("brings", "from", "file"), ("lists", "from", "name", "v")]})
+        self.language = whole
+        self.refused(["def a", "", "from m a"], "a", "n", 0, "import", "o", 7)
+        start = Language({
+            "tokens": TOKENS, "start": "start", "spaces": ["v"],
+            "rules": [("choice", "start", ["defs", "from"]), ("node", "defs", [("word", "defs"), ("many", "def", "defs")]),
+                      ("node", "from", [("word", "from"), ("token", "word", "file"), ("token", "word", "name")]),
+                      ("node", "def", [("word", "def"), ("token", "word", "name")])],
+            "names": [("declares", "def", "name", "v", "gives"), ("brings", "from", "file"), ("lists", "from", "name", "v")]})
+        self.assertEqual((faults(start), check_facts(start)), ([], None))
+        self.language = start
+        self.refused(["defs def a", "defs", "from m a"], 9, "n", 0, "import", "o", 7)
 
     def test_units(self):
         texts = ["{} measure a; show in a + in a;", "measure b;", "hand 'm' take unit a; show in a;"]

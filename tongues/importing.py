@@ -80,9 +80,8 @@ def put_into_import(candidate, file, source, items):
 def put_new_import(candidate, file, source, items, blank):
     """Puts a new import of the source with an item into a file; False if it cannot be done."""
     language = candidate.present().language(file)
+    # There is an outermost node, as an occurrence stands in the file.
     outer = outermost_node(candidate.present().tree(file))
-    if outer is None:
-        return False
     for item in items:
         for text, copied in written_imports(language, item, source):
             if candidate.try_inserting(file, (outer, item.row.outer_field, 0), text, copied, blank) is not None:

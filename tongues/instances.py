@@ -166,7 +166,8 @@ class Instances:
         while waiting:
             wanted = self._attempt(waiting[-1])
             if wanted is None:
-                del is_waiting[waiting.pop()]
+                settled = waiting.pop()
+                del is_waiting[settled]
             elif wanted in is_waiting or wanted in self._known:
                 for other in waiting:
                     self._known[other] = CYCLE

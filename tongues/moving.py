@@ -43,14 +43,12 @@ def declaration_at(candidate, file, place):
 
 
 def list_element(project, file, row):
-    """The row of the element of a list of the outermost node in which a row stands, None if there is none."""
+    """The row of the element of a list of the outermost node in which a token stands, None if there is none."""
     tree = project.tree(file)
-    while tree[row][0] is not None and tree[tree[row][0]][0] is not None:
+    while tree[tree[row][0]][0] is not None:
         row = tree[row][0]
-    around = tree[row][0]
-    if around is None or tree[row][2] != "node":
-        return None
-    return None if list_part(project.language(file), tree, around, tree[row][1]) is None else row
+    part = list_part(project.language(file), tree, tree[row][0], tree[row][1])
+    return None if part is None else row
 
 
 def many_elements(project, file, field):
