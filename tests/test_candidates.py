@@ -63,6 +63,13 @@ class StepsTest(unittest.TestCase):
         self.assertTrue(candidate.try_replacing("m", row_of(candidate, "m", "number"), "3", ()))
         self.assertEqual(candidate.places_of(("m", 9, 10)), [("m", 21, 22)])
 
+    def test_places_are_told_in_ascending_order(self):
+        candidate = candidate_of("show d; show a;", "show b;")
+        copied = copied_tokens(candidate.old, "m", 13, 14)
+        self.assertTrue(candidate.try_replacing("n", row_of(candidate, "n", "name"), "a", copied))
+        self.assertTrue(candidate.try_replacing("m", row_of(candidate, "m", "name"), "a", copied))
+        self.assertEqual(candidate.places_of(("m", 13, 14)), [("m", 5, 6), ("m", 13, 14), ("n", 5, 6)])
+
     def test_copies_behind_a_gap(self):
         candidate = candidate_of("show a;", "show 1;")
         copied = copied_tokens(candidate.old, "m", 0, 7)

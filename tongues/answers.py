@@ -87,7 +87,6 @@ class Answers:
         instances = self.instances
         found = []
         listed = {}
-        instances.value(file, row, attribute)
         waiting = [(None, (file, row, attribute))]
         while waiting:
             around, (other, node, name) = waiting.pop()
@@ -120,7 +119,8 @@ class Answers:
         row = self.node_at(file, position)
         while row is not None:
             scope = names.opened_scope(row)
-            if scope is not None and not (field is not None and names.is_left_out(row, field)):
+            # A word, or what is no token, is in no field.
+            if scope is not None and not names.is_left_out(row, field):
                 return scope
             field = tree[row][1]
             row = tree[row][0]
