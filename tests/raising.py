@@ -8,3 +8,9 @@ def raised(function, *arguments):
     except ValueError as error:
         return (type(error).__name__, dict(vars(error)))
     return None
+
+
+def told(function, *arguments, **more):
+    """What a call returns, or else the error that it raises, as a tuple of the name of its class and its attributes."""
+    found = raised(lambda: function(*arguments, **more))
+    return function(*arguments, **more) if found is None else (found[0], *found[1].values())

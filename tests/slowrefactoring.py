@@ -417,3 +417,11 @@ class SlowRefactoring(SlowSteps):
         for token in new:
             if self.leads(self.now, names, token) != (declaring[0],):
                 raise Stop("Differs", token, (declaring[0],), self.leads(self.now, names, token))
+
+
+def slow_told(project, question, *arguments):
+    """What a refactoring returns, or else what it is refused with."""
+    try:
+        return getattr(SlowRefactoring(project), question)(*arguments)
+    except Stop as stop:
+        return stop.args

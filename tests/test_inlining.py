@@ -13,9 +13,9 @@ from tongues.projects import Project
 from tongues.texts import apply_change
 from tests.languages import TOKENS
 from tests.modules import DEFINITIONS, IMPORTS, NAMES, RULES, modules
-from tests.raising import raised
+from tests.raising import raised, told
 from tests.randomtexts import modules_files, modules_text
-from tests.slowrefactoring import SlowRefactoring, Stop
+from tests.slowrefactoring import slow_told
 
 MODULES = modules()
 
@@ -519,16 +519,6 @@ class ExtractTest(RefactoringTest):
 class ComparedTest(unittest.TestCase):
     """Everything is compared with another way to it, over random projects."""
 
-    def told(self, function, *arguments, **more):
-        found = raised(lambda: function(*arguments, **more))
-        return function(*arguments, **more) if found is None else (found[0], *found[1].values())
-
-    def slow(self, project, question, *arguments):
-        try:
-            return getattr(SlowRefactoring(project), question)(*arguments)
-        except Stop as stop:
-            return stop.args
-
     def projects(self):
         for seed in range(70):
             rng = random.Random(seed)
@@ -551,14 +541,14 @@ class ComparedTest(unittest.TestCase):
                 file, blank = rng.choice(project.file_names()), rng.choice(("", " ", "\n"))
                 words = [row[4] for row in project.tree(file) if row[2:4] == ("token", ("rule", "word"))]
                 place = rng.choice(words) if words and rng.random() < 0.9 else rng.randint(-1, 20)
-                found = self.told(inline, project, file, place)
-                self.assertEqual(found, self.slow(project, "inline", file, place), (file, place))
+                found = told(inline, project, file, place)
+                self.assertEqual(found, slow_told(project, "inline", file, place), (file, place))
                 self.count(met, "inline", found)
                 rows = [row for row in project.tree(file) if row[2] == "node"]
                 start, stop = rng.choice(rows)[4:] if rows and rng.random() < 0.9 else (rng.randint(0, 9), rng.randint(0, 30))
                 name, every = rng.choice("qqqqzab1"), rng.random() < 0.5
-                found = self.told(extract, project, file, start, stop, name, every=every, blank=blank)
-                self.assertEqual(found, self.slow(project, "extract", file, start, stop, name, every, blank), (file, start, stop, name))
+                found = told(extract, project, file, start, stop, name, every=every, blank=blank)
+                self.assertEqual(found, slow_told(project, "extract", file, start, stop, name, every, blank), (file, start, stop, name))
                 self.count(met, "extract", found)
         for question, words in (("inline", ("changes", "nothing", "several", "definition", "itself", "occurrence")),
                                 ("extract", ("changes", "Differs", "expression", "name"))):

@@ -15,9 +15,9 @@ from tongues.texts import apply_change
 from tests.languages import TOKENS
 from tests.modules import IMPORTS, RULES, modules
 from tests.modules import TOKENS as MODULE_TOKENS
-from tests.raising import raised
+from tests.raising import raised, told
 from tests.randomtexts import modules_files, modules_text
-from tests.slowrefactoring import SlowRefactoring, Stop
+from tests.slowrefactoring import slow_told
 
 MODULES = modules()
 
@@ -444,16 +444,6 @@ class NeedsTest(MoveTest):
 class ComparedTest(unittest.TestCase):
     """Everything is compared with another way to it, over random projects."""
 
-    def told(self, function, *arguments, **more):
-        found = raised(lambda: function(*arguments, **more))
-        return function(*arguments, **more) if found is None else (found[0], *found[1].values())
-
-    def slow(self, project, question, *arguments):
-        try:
-            return getattr(SlowRefactoring(project), question)(*arguments)
-        except Stop as stop:
-            return stop.args
-
     def test_random_projects(self):
         met = {}
         for seed in range(70):
@@ -472,8 +462,8 @@ class ComparedTest(unittest.TestCase):
                 places = [row[4] for row in tree if row[1] == "name" and row[0] and tree[row[0]][3] in ("def", "late", "var", "measure")]
                 place = rng.choice(places) if places and rng.random() < 0.9 else rng.randint(-1, 20)
                 arguments = (file, place, rng.choice(project.file_names()), rng.randint(-1, 3))
-                found = self.told(move, project, *arguments, blank=blank)
-                self.assertEqual(found, self.slow(project, "move", *arguments, blank), (seed, arguments))
+                found = told(move, project, *arguments, blank=blank)
+                self.assertEqual(found, slow_told(project, "move", *arguments, blank), (seed, arguments))
                 word = "changes" if isinstance(found, dict) else found[0] if found[0] != "Refused" else found[1]
                 met[word] = met.get(word, 0) + 1
         for word in ("changes", "Differs", "declaration", "scope", "target", "language", "index"):

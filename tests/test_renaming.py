@@ -12,7 +12,7 @@ from tongues.renaming import (LeadsElsewhere, LeadsNowhere, LeadsToOthers, Leads
 from tongues.saving import saving
 from tongues.texts import apply_change
 from tests.naming import PRIVATE, SECTIONS, naming
-from tests.raising import raised
+from tests.raising import raised, told
 from tests.randomtexts import naming_text
 from tests.slowrenaming import SlowRenaming, Wrong
 
@@ -341,10 +341,6 @@ class SavingTest(unittest.TestCase):
 class ComparedTest(unittest.TestCase):
     """Everything is compared with another way to it: texts that are really changed, and all sets of declarations."""
 
-    def told(self, function, *arguments):
-        found = raised(function, *arguments)
-        return function(*arguments) if found is None else (found[0], *found[1].values())
-
     def slow(self, question, *arguments):
         try:
             return getattr(SlowRenaming(*arguments), question)()
@@ -369,9 +365,9 @@ class ComparedTest(unittest.TestCase):
                 continue
             for _ in range(4):
                 arguments = (project, *self.place(rng, project), rng.choice("mnopmnopmnopxz") + rng.choice(("", "", "", " b", "1")))
-                found = {function.__name__: self.told(function, *arguments) for function in (rename, clashes, saving)}
-                for question, told in found.items():
-                    self.assertEqual(told, self.slow(question, *arguments), (seed, question, arguments[1:], files))
+                found = {function.__name__: told(function, *arguments) for function in (rename, clashes, saving)}
+                for question, answer in found.items():
+                    self.assertEqual(answer, self.slow(question, *arguments), (seed, question, arguments[1:], files))
                 if isinstance(found["rename"], tuple):
                     met[found["rename"][0]] = True
                 if found["rename"] == {} or raised(clashes, *arguments) is None:
