@@ -71,15 +71,26 @@ class StepsTest(unittest.TestCase):
         self.assertEqual(candidate.places_of(("m", 13, 14)), [("m", 5, 6), ("m", 13, 14), ("n", 5, 6)])
 
     def test_copies_behind_a_gap(self):
-        candidate = candidate_of("show a;", "show 1;")
-        copied = copied_tokens(candidate.old, "m", 0, 7)
-        self.assertEqual(candidate.try_inserting("n", (0, "items", 1), "show a;", copied, "\n"), 8)
-        self.assertEqual(candidate.places_of(("m", 5, 6)), [("m", 5, 6), ("n", 13, 14)])
-        candidate = candidate_of("show call f [];")
-        copied = copied_tokens(candidate.old, "m", 10, 11)
-        self.assertTrue(candidate.try_replacing("m", row_of(candidate, "m", "call"), "f", copied))
-        self.assertEqual(candidate.present().text("m"), "show f;")
-        self.assertEqual(candidate.places_of(("m", 10, 11)), [("m", 5, 6)])
+        # Ahead of an expression, and of one in brackets, whose place is behind the bracket.
+        candidate = candidate_of("show(1); show a + 2;")
+        copied = copied_tokens(candidate.old, "m", 14, 19)
+        self.assertTrue(candidate.try_replacing("m", row_of(candidate, "m", "sum"), "a + 2", copied))
+        self.assertEqual(candidate.present().text("m"), "show a + 2; show a + 2;")
+        self.assertEqual(candidate.places_of(("m", 14, 15)), [("m", 5, 6), ("m", 17, 18)])
+        self.assertEqual(candidate.places_of(("m", 18, 19)), [("m", 9, 10), ("m", 21, 22)])
+        # Ahead of an element behind the last one, and of one in an empty list, but not of the first one.
+        candidate = candidate_of("show call f [1]; end a", "from m take;")
+        copied = copied_tokens(candidate.old, "m", 21, 22)
+        tree = candidate.present().tree("n")
+        source = [row for row, one in enumerate(tree) if one[3] == "from"][0]
+        self.assertEqual(candidate.try_inserting("n", (source, "picks", 0), "a", copied, ""), 12)
+        self.assertEqual(candidate.present().text("n"), "from m take a;")
+        self.assertEqual(candidate.places_of(("m", 21, 22)), [("m", 21, 22), ("n", 12, 13)])
+        self.assertEqual(candidate.try_inserting("n", (source, "picks", 1), "ren a as q", [(4, ("m", 21, 22))], ""), 14)
+        self.assertEqual(candidate.present().text("n"), "from m take a,ren a as q;")
+        self.assertEqual(candidate.places_of(("m", 21, 22)), [("m", 21, 22), ("n", 12, 13), ("n", 18, 19)])
+        self.assertEqual(candidate.try_inserting("n", (source, "picks", 0), "b", (), " "), 12)
+        self.assertEqual(candidate.places_of(("m", 21, 22)), [("m", 21, 22), ("n", 15, 16), ("n", 21, 22)])
 
     def test_steps_that_cannot_be_made(self):
         candidate = candidate_of("show a; $")
